@@ -1,0 +1,63 @@
+"""Calls as lists of numbers, and their answers taken apart again."""
+
+from trustvote.channels import answers
+
+EDGE = 2 ** 62
+TOP = 2 ** 64 - 1
+NONE = -2 ** 63
+
+
+def begin():
+    return [0]
+
+
+def set_up(c, least=0, greatest=100, step=0, same=0, old=0, hold=0):
+    return [1, c, least, greatest, step, same, old, hold]
+
+
+def stand(c, s):
+    return [2, c, s]
+
+
+def vote(c, *members, tolerance=0):
+    """Members are channels, or pairs of a channel and a weight."""
+    row = []
+    for member in members:
+        row += [member, 1] if isinstance(member, int) else list(member)
+    return [3, c, tolerance, len(row)] + row
+
+
+def clear(c):
+    return [4, c]
+
+
+def set_all(*channels):
+    return [set_up(c) for c in channels]
+
+
+def joined(calls):
+    return [number for call in calls for number in call]
+
+
+def split(told):
+    """The answers one by one, each a list."""
+    parts = []
+    place = 0
+    while place < len(told):
+        end = place + 1 + told[place]
+        parts.append(told[place + 1:end])
+        place = end
+    return parts
+
+
+def ask(*calls):
+    """The answers to the calls, each of one number."""
+    parts = split(answers(joined(calls)))
+    if len(parts) != len(calls):
+        raise AssertionError(f"{len(calls)} calls, {len(parts)} answers")
+    return [part[0] if len(part) == 1 else part for part in parts]
+
+
+def last(*calls):
+    """The answer to the last of the calls."""
+    return ask(*calls)[-1]

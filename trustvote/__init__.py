@@ -1,0 +1,1 @@
+"""What's believed of measurements."""
