@@ -6,6 +6,10 @@ EDGE = 2 ** 62
 TOP = 2 ** 64 - 1
 NONE = -2 ** 63
 
+# What look tells of a channel that is voted, and of one that is measured where nothing has come.
+VOTED = [1, -1, NONE, 0, -1, NONE, 0]
+UNHEARD = [0, -1, NONE, 0, -1, NONE, 0]
+
 
 def begin():
     return [0]
@@ -31,6 +35,22 @@ def clear(c):
     return [4, c]
 
 
+def came(c, t, value):
+    return [5, c, t, value]
+
+
+def now(c, t):
+    return [6, c, t]
+
+
+def out(c, t):
+    return [7, c, t]
+
+
+def look(c):
+    return [8, c]
+
+
 def set_all(*channels):
     return [set_up(c) for c in channels]
 
@@ -51,7 +71,7 @@ def split(told):
 
 
 def ask(*calls):
-    """The answers to the calls, each of one number."""
+    """The answers to the calls: a number where it is one alone, else a list."""
     parts = split(answers(joined(calls)))
     if len(parts) != len(calls):
         raise AssertionError(f"{len(calls)} calls, {len(parts)} answers")

@@ -89,6 +89,24 @@ class Form(unittest.TestCase):
             if isinstance(node.func, ast.Attribute):
                 self.assertIn(node.func.attr, own, (name, node.lineno))
 
+    def test_no_name_is_a_method_and_a_value(self):
+        methods = {
+            part.name for name, node in nodes(ast.ClassDef) for part in node.body if isinstance(part, ast.FunctionDef)
+        }
+        for name, node in nodes(ast.Attribute):
+            if isinstance(node.ctx, ast.Store):
+                self.assertNotIn(node.attr, methods, (name, node.lineno))
+
+    def test_no_two_files_draw_from_one_another(self):
+        draws = {name: set() for name, text in sources()}
+        for name, node in nodes(ast.ImportFrom):
+            draws[name].add(node.module.split(".")[1] + ".py")
+        while draws:
+            free = [name for name in draws if not draws[name] & set(draws)]
+            self.assertNotEqual(free, [], draws)
+            for name in free:
+                draws.pop(name)
+
     def test_words_left_out(self):
         for name, text in sources():
             for word in re.findall(r"[A-Za-z_]+", text):

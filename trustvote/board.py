@@ -1,8 +1,11 @@
-"""The channels that are there, and who of them leans on whom."""
+"""The channels that are there, what came of them, and who of them leans on whom."""
 
 LAST_CHANNEL = 63
 # 2 to the 62nd: no value, time or setting goes beyond it.
 FARTHEST = 4611686018427387904
+# How it is told that there is no value, and no time.
+NONE = -9223372036854775808
+NEVER = -1
 
 
 def is_value(number):
@@ -30,12 +33,29 @@ class Limits:
         return max(self.step, self.same, self.old, self.hold) <= FARTHEST
 
 
+class Reading:
+    """Something that came: its time, its value or none, and the quality it was judged to have."""
+
+    def __init__(self, time, value, quality):
+        self.time = time
+        self.value = value
+        self.quality = quality
+
+    def has_come(self):
+        """Whether it came at all, and doesn't just stand where nothing has come yet."""
+        return self.time != NEVER
+
+
 class Measured:
-    """A measured channel: its limits, and the channel that stands in for it, or None."""
+    """A measured channel: its limits, the channel that stands in for it, or None, and what came."""
 
     def __init__(self, limits):
         self.limits = limits
         self.stand_in = None
+        self.last = Reading(NEVER, NONE, 0)
+        self.last_good = Reading(NEVER, NONE, 0)
+        # How often in a row the last value has come.
+        self.times = 0
 
     def leans_on(self):
         """The channels that this one leans on."""

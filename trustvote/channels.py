@@ -1,13 +1,19 @@
 """The calls on one board of channels: read from a list of numbers, carried out in order, answered in a list."""
 
-from trustvote.board import FARTHEST, LAST_CHANNEL, Board, Limits, Measured, Voted
+from trustvote.believing import beliefs_from, outlying_voices, voices_of
+from trustvote.board import FARTHEST, LAST_CHANNEL, NEVER, NONE, Board, Limits, Measured, Voted, is_value
+from trustvote.judging import take_in
 
 BEGIN = 0
 SET_UP = 1
 STAND = 2
 VOTE = 3
+CLEAR = 4
+CAME = 5
+NOW = 6
+OUT = 7
 # How many numbers each call has, its own number and a row's length among them, the row itself not.
-LENGTHS = (1, 8, 3, 4, 2)
+LENGTHS = (1, 8, 3, 4, 2, 4, 3, 3, 2)
 
 NOBODY = 64
 FEWEST_MEMBERS = 2
@@ -21,6 +27,9 @@ NOT_ALLOWED = -1
 NOT_THERE = -2
 GOES_ROUND = -3
 IN_THE_WAY = -4
+
+IS_MEASURED = 0
+IS_VOTED = 1
 
 
 def answers(calls):
@@ -56,7 +65,15 @@ def answer_of_call(board, call):
         return stand(board, call[1], call[2])
     if kind == VOTE:
         return vote(board, call[1], call[2], pairs(call[4:]))
-    return clear(board, call[1])
+    if kind == CLEAR:
+        return clear(board, call[1])
+    if kind == CAME:
+        return came(board, call[1], call[2], call[3])
+    if kind == NOW:
+        return now(board, call[1], call[2])
+    if kind == OUT:
+        return out(board, call[1], call[2])
+    return look(board, call[1])
 
 
 def pairs(numbers):
@@ -141,3 +158,54 @@ def clear(board, c):
         return [IN_THE_WAY]
     board.take_away(c)
     return [DONE]
+
+
+def came(board, c, t, value):
+    """Promise 6: the value, or none, has come of c."""
+    if c > LAST_CHANNEL or t > FARTHEST:
+        return [NOT_ALLOWED]
+    if not is_value(value) and value != NONE:
+        return [NOT_ALLOWED]
+    channel = board.channel_at(c)
+    if not isinstance(channel, Measured):
+        return [NOT_THERE]
+    if t < channel.last.time:
+        return [IN_THE_WAY]
+    take_in(channel, t, value)
+    return [channel.last.quality]
+
+
+def now(board, c, t):
+    """Promise 7: what's believed of c."""
+    if c > LAST_CHANNEL or t > FARTHEST:
+        return [NOT_ALLOWED]
+    if not board.has_channel(c):
+        return [NOT_THERE]
+    belief = beliefs_from(board, c, t)[c]
+    return [belief.quality, belief.value, belief.sure]
+
+
+def out(board, c, t):
+    """Promise 8: which members of c are good, but too far from the middle."""
+    if c > LAST_CHANNEL or t > FARTHEST:
+        return [NOT_ALLOWED]
+    channel = board.channel_at(c)
+    if not isinstance(channel, Voted):
+        return [NOT_THERE]
+    voices = voices_of(channel, beliefs_from(board, c, t))
+    outlying = [voice.c for voice in outlying_voices(channel, voices)]
+    return [len(outlying)] + outlying
+
+
+def look(board, c):
+    """Promise 9: what c is, and what came of it."""
+    if c > LAST_CHANNEL:
+        return [NOT_ALLOWED]
+    channel = board.channel_at(c)
+    if channel is None:
+        return [NOT_THERE]
+    if isinstance(channel, Voted):
+        return [IS_VOTED, NEVER, NONE, 0, NEVER, NONE, 0]
+    last = channel.last
+    good = channel.last_good
+    return [IS_MEASURED, last.time, last.value, last.quality, good.time, good.value, channel.times]
